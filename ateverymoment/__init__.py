@@ -1,0 +1,1 @@
+"""Ateverymoment: facts in spans of time, and questions that are kept up."""

@@ -1,0 +1,35 @@
+"""The interface: each name is defined in its own file, with the arguments as they are written in the document."""
+
+import importlib
+import inspect
+import unittest
+
+FUNCTIONS = {
+    "phases": ("spans_of(cells)", "cells_of(spans, cycle)", "is_spans(spans, cycle)"),
+    "tables": (
+        "is_table(table)", "holds(table, moment)", "shortest(table)", "is_shortest(table)", "never(cycle)",
+        "always(cycle)", "span_table(cycle, start, end)",
+    ),
+}
+ERRORS = {
+    "NoQuestion": "(path)", "BadText": "(at)", "NoFact": "(number)", "NoKept": "(number)", "NoGuard": "(number)",
+    "Forbidden": "(guard, moment, row)",
+}
+
+
+class Interface(unittest.TestCase):
+    def test_functions_stand_in_their_files(self):
+        for name, written in FUNCTIONS.items():
+            module = importlib.import_module("ateverymoment." + name)
+            for text in written:
+                with self.subTest(module=name, function=text):
+                    function = getattr(module, text.partition("(")[0])
+                    self.assertEqual(function.__name__ + str(inspect.signature(function)), text)
+                    self.assertEqual(function.__module__, module.__name__)
+
+    def test_errors_take_their_attributes(self):
+        module = importlib.import_module("ateverymoment.errors")
+        for name, arguments in ERRORS.items():
+            kind = getattr(module, name)
+            self.assertEqual(str(inspect.signature(kind)), arguments)
+            self.assertEqual(kind.__module__, module.__name__)

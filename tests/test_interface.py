@@ -10,6 +10,23 @@ FUNCTIONS = {
         "is_table(table)", "holds(table, moment)", "shortest(table)", "is_shortest(table)", "never(cycle)",
         "always(cycle)", "span_table(cycle, start, end)",
     ),
+    "finding": (
+        "next_moment(table, moment)", "last_moment(table, moment)", "count_before(table, moment)",
+        "nth_moment(table, n)", "is_endless(table)", "end_of(table)", "turns(table)",
+        "first_difference(table, other)",
+    ),
+    "combining": (
+        "both(table, other)", "either(table, other)", "without(table, other)", "just_one(table, other)",
+        "opposite(table)", "any_of(cycle, tables)", "all_of(cycle, tables)",
+    ),
+    "passing": (
+        "shifted(table, n)", "once(table, *, within=None)", "lately(table, *, within=None)",
+        "soon(table, *, within=None)", "henceforth(table, *, within=None)", "since(table, other)",
+        "until(table, other)",
+    ),
+    "whens": (
+        "is_when(cycle, when)", "when_table(cycle, when)", "when_holds(when, moment)", "when_bound(when)",
+    ),
 }
 ERRORS = {
     "NoQuestion": "(path)", "BadText": "(at)", "NoFact": "(number)", "NoKept": "(number)", "NoGuard": "(number)",

@@ -7,10 +7,15 @@ from ateverymoment.pieces import pieces_of, table_of
 LONGEST_CYCLE = 60
 
 
+def is_cycle(cycle):
+    """Return True if the integer is a cycle, otherwise False."""
+    return 1 <= cycle <= LONGEST_CYCLE
+
+
 def is_table(table):
     """Return True if the pair is a table, otherwise False."""
     cycle, lines = table
-    if not 1 <= cycle <= LONGEST_CYCLE or len(lines) == 0 or lines[0][0] != 0:
+    if not is_cycle(cycle) or len(lines) == 0 or lines[0][0] != 0:
         return False
     before = -1
     for start, spans in lines:

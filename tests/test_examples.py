@@ -1,10 +1,16 @@
-"""The examples of the document that use the modules that are there."""
+"""The examples of the document that use the modules that are there, and those of the README."""
 
+import doctest
 import unittest
+from pathlib import Path
 
 from ateverymoment.finding import next_moment, nth_moment
 from ateverymoment.passing import once, since
+from ateverymoment.questions import columns_of
+from ateverymoment.simplifying import simplified
 from ateverymoment.tables import is_shortest, shortest, span_table
+from ateverymoment.times import Times
+from ateverymoment.values import compare_values
 from ateverymoment.whens import when_table
 
 
@@ -30,3 +36,23 @@ class Examples(unittest.TestCase):
 
     def test_whens(self):
         self.assertEqual(when_table(6, ("round", 1, 2, 3, None)), (6, ((0, ((1, 3), (4, 6))),)))
+
+    def test_times(self):
+        both_spans = Times.made(7, ("span", 2, 4)) | Times.made(7, ("from", 10))
+        self.assertEqual((both_spans.first_moment, 5 in both_spans, 10 ** 30 in both_spans), (2, False, True))
+
+    def test_values(self):
+        self.assertEqual(compare_values(5, "a"), -1)
+
+    def test_questions(self):
+        question = ("both", ("fact", "works", (("col", "who"), ("col", "place"))), ("fact", "open", (("col", "place"),)))
+        self.assertEqual(columns_of(question), ("place", "who"))
+
+    def test_simplifying(self):
+        self.assertEqual(simplified(("shift", 2, ("shift", -2, ("fact", "open", ())))), ("fact", "open", ()))
+
+    def test_the_readme(self):
+        text = (Path(__file__).resolve().parent.parent / "README.md").read_text().replace("```", "")
+        examples = doctest.DocTestParser().get_doctest(text, {}, "README", "README.md", 0)
+        self.assertGreater(len(examples.examples), 10)
+        self.assertEqual(doctest.DocTestRunner().run(examples).failed, 0)

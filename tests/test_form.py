@@ -9,6 +9,7 @@ FOLDER = Path(__file__).resolve().parent.parent / "ateverymoment"
 LIBRARY = {"heapq", "math", "itertools", "collections", "__future__"}
 BUILTINS = {name for name in vars(builtins) if not name.startswith("_")}
 FUNCTIONS = (ast.FunctionDef, ast.AsyncFunctionDef)
+BARRED = {"register", "mro", "elements", "open", "input", "law", "version_info", "with_traceback", "add_note"}
 
 
 def files():
@@ -55,6 +56,24 @@ class Form(unittest.TestCase):
         for path in files():
             for name in bound_names(ast.parse(path.read_text())):
                 self.assertNotIn(name, BUILTINS, path.name)
+
+    def test_barred_names(self):
+        for path in files():
+            tree = ast.parse(path.read_text())
+            attributes = {node.attr for node in ast.walk(tree) if isinstance(node, ast.Attribute)}
+            self.assertEqual((set(bound_names(tree)) | attributes) & BARRED, set(), path.name)
+
+    def test_no_two_files_import_from_each_other(self):
+        needed = {path.stem: set() for path in files()}
+        for path in files():
+            for node in ast.parse(path.read_text()).body:
+                if isinstance(node, ast.ImportFrom) and node.module.startswith("ateverymoment."):
+                    needed[path.stem].add(node.module.partition(".")[2])
+        while needed:
+            free = [name for name in needed if not needed[name] & set(needed)]
+            self.assertTrue(free, needed)
+            for name in free:
+                del needed[name]
 
     def test_no_percent_sign_stands_in_a_string(self):
         for path in files():

@@ -27,11 +27,21 @@ FUNCTIONS = {
     "whens": (
         "is_when(cycle, when)", "when_table(cycle, when)", "when_holds(when, moment)", "when_bound(when)",
     ),
+    "values": ("is_word(text)", "is_row(row)", "compare_values(one, other)", "sorted_rows(rows)"),
+    "questions": (
+        "check_question(question)", "columns_of(question)", "parts_of(question)", "count_nodes(question)",
+    ),
+    "simplifying": ("simplified(question)",),
 }
 ERRORS = {
     "NoQuestion": "(path)", "BadText": "(at)", "NoFact": "(number)", "NoKept": "(number)", "NoGuard": "(number)",
     "Forbidden": "(guard, moment, row)",
 }
+
+
+OPERATORS = (
+    "__contains__", "__bool__", "__and__", "__or__", "__sub__", "__xor__", "__invert__", "__lshift__", "__rshift__",
+)
 
 
 class Interface(unittest.TestCase):
@@ -50,3 +60,16 @@ class Interface(unittest.TestCase):
             kind = getattr(module, name)
             self.assertEqual(str(inspect.signature(kind)), arguments)
             self.assertEqual(kind.__module__, module.__name__)
+
+    def test_times_has_its_methods_itself(self):
+        module = importlib.import_module("ateverymoment.times")
+        kind = module.Times
+        own = vars(kind)
+        self.assertEqual(kind.__module__, module.__name__)
+        self.assertEqual(str(inspect.signature(kind)), "(table)")
+        for name in OPERATORS:
+            self.assertTrue(inspect.isfunction(own[name]), name)
+        for name in ("as_table", "first_moment"):
+            self.assertIsInstance(own[name], property)
+        self.assertIsInstance(own["made"], staticmethod)
+        self.assertEqual(str(inspect.signature(kind.made)), "(cycle, when)")

@@ -4,14 +4,17 @@ import doctest
 import unittest
 from pathlib import Path
 
+from ateverymoment.errors import BadText
 from ateverymoment.finding import next_moment, nth_moment
 from ateverymoment.passing import once, since
 from ateverymoment.questions import columns_of
+from ateverymoment.reading import read_question
 from ateverymoment.simplifying import simplified
 from ateverymoment.tables import is_shortest, shortest, span_table
 from ateverymoment.times import Times
 from ateverymoment.values import compare_values
 from ateverymoment.whens import when_table
+from ateverymoment.writing import write_question
 
 
 class Examples(unittest.TestCase):
@@ -45,11 +48,24 @@ class Examples(unittest.TestCase):
         self.assertEqual(compare_values(5, "a"), -1)
 
     def test_questions(self):
-        question = ("both", ("fact", "works", (("col", "who"), ("col", "place"))), ("fact", "open", (("col", "place"),)))
+        works = ("fact", "works", (("col", "who"), ("col", "place")))
+        question = ("both", works, ("fact", "open", (("col", "place"),)))
         self.assertEqual(columns_of(question), ("place", "who"))
 
     def test_simplifying(self):
         self.assertEqual(simplified(("shift", 2, ("shift", -2, ("fact", "open", ())))), ("fact", "open", ()))
+
+    def test_writing(self):
+        question = ("sum", "z", "y", ("x",), ("fact", "pays", (("col", "x"), ("col", "y"))))
+        self.assertEqual(write_question(question), "sum(z, y, {x}, pays[x, y])")
+
+    def test_reading(self):
+        self.assertEqual(
+            read_question('once( ever, open["bar"] )'), ("once", None, ("fact", "open", (("value", "bar"),))),
+        )
+        with self.assertRaises(BadText) as caught:
+            read_question("shift(07, open[])")
+        self.assertEqual(caught.exception.at, 6)
 
     def test_the_readme(self):
         text = (Path(__file__).resolve().parent.parent / "README.md").read_text().replace("```", "")

@@ -32,6 +32,12 @@ FUNCTIONS = {
         "check_question(question)", "columns_of(question)", "parts_of(question)", "count_nodes(question)",
     ),
     "simplifying": ("simplified(question)",),
+    "writing": ("write_question(question)",),
+    "reading": ("read_question(text)",),
+    "answers": (
+        "make_answer(cycle, columns, pairs)", "rows_at(answer, moment)", "row_table(answer, row)",
+        "moments_of(answer)", "first_row(answer)", "first_apart(answer, other)",
+    ),
 }
 ERRORS = {
     "NoQuestion": "(path)", "BadText": "(at)", "NoFact": "(number)", "NoKept": "(number)", "NoGuard": "(number)",

@@ -293,7 +293,8 @@ def some_term(chance):
 
 class Asking(unittest.TestCase):
     def test_the_example(self):
-        question = ("both", ("fact", "works", (("col", "who"), ("col", "place"))), ("fact", "open", (("col", "place"),)))
+        works = ("fact", "works", (("col", "who"), ("col", "place")))
+        question = ("both", works, ("fact", "open", (("col", "place"),)))
         self.assertEqual(columns_of(question), ("place", "who"))
 
     def test_columns_of_each_kind(self):

@@ -12,15 +12,26 @@ def make_answer(cycle, columns, pairs):
     tables = {}
     for row, table in pairs:
         tables.setdefault(row, []).append(table)
-    entries = [(row, any_of(cycle, tables[row])[1]) for row in sorted_rows(list(tables))]
-    none = never(cycle)[1]
-    return cycle, columns, tuple([(row, lines) for row, lines in entries if lines != none])
+    return answer_of(cycle, columns, {row: any_of(cycle, tables[row]) for row in tables})
+
+
+def answer_of(cycle, columns, tables):
+    """Return the answer in which each row of the dict answers at the moments of its table, which is a shortest one."""
+    none = never(cycle)
+    rows = sorted_rows([row for row in tables if tables[row] != none])
+    return cycle, columns, tuple([(row, tables[row][1]) for row in rows])
 
 
 def tables_of(answer):
     """Return a dict of the tables of the rows of the answer, in ascending order of the rows."""
     cycle, _, entries = answer
     return {row: (cycle, lines) for row, lines in entries}
+
+
+def check_cycles(answer, other):
+    """Raise DifferentCycles if the answers have different cycles."""
+    if answer[0] != other[0]:
+        raise DifferentCycles("the answers have different cycles")
 
 
 def rows_at(answer, moment):
@@ -46,8 +57,7 @@ def first_row(answer):
 
 def first_apart(answer, other):
     """Return the pair of the least moment at which the answers are apart and the least row then, or None."""
-    if answer[0] != other[0]:
-        raise DifferentCycles("the answers have different cycles")
+    check_cycles(answer, other)
     if answer[1] != other[1]:
         raise OtherColumns("the answers have different columns")
     one, two = tables_of(answer), tables_of(other)

@@ -193,12 +193,53 @@ def some_questions(chance, count, depth=5):
 
 
 def plain_when(when, moment):
-    """[14], for the two forms that the facts here have."""
+    """[14]"""
     if when[0] == "span":
         return when[1] <= moment < when[2]
-    _, start, length, every, times = when
-    turns = range(times) if times is not None else range(moment + 1)
-    return any(start + i * every <= moment < start + i * every + length for i in turns)
+    if when[0] == "from":
+        return moment >= when[1]
+    if when[0] == "round":
+        _, start, length, every, times = when
+        turns = range(times) if times is not None else range(moment + 1)
+        return any(start + i * every <= moment < start + i * every + length for i in turns)
+    one, other = [plain_when(part, moment) for part in when[1:]]
+    return one or other if when[0] == "also" else one and not other
+
+
+def plain_bound(when):
+    """[29]"""
+    if when[0] in ("also", "but"):
+        return max(plain_bound(part) for part in when[1:])
+    if when[0] == "round":
+        _, start, length, every, times = when
+        return start if times is None else start + (times - 1) * every + length
+    return when[2] if when[0] == "span" else when[1]
+
+
+def some_when(chance, cycle, depth=3):
+    """A valid "when" that is steady after some moments."""
+    kind = chance.choice(("span", "span", "from", "round", "round", "also", "but"))
+    if kind in ("also", "but") and depth > 1:
+        return kind, some_when(chance, cycle, depth - 1), some_when(chance, cycle, depth - 1)
+    start = chance.randrange(7)
+    if kind == "span":
+        return kind, start, start + chance.randint(1, 5)
+    if kind == "from":
+        return kind, start
+    every = chance.choice([every for every in range(1, cycle + 1) if cycle % every == 0])
+    return "round", start, chance.randint(1, every), every, chance.choice((None, 1, 2, 3))
+
+
+def some_told(chance, cycle, most=12):
+    """Facts, some of them of the same name and row, with rows of different lengths."""
+    facts = []
+    for _ in range(chance.randrange(most + 1)):
+        row = tuple(chance.choice((1, 2, "a", "ab")) for _ in range(chance.choice((0, 1, 1, 2, 2, 2, 3))))
+        facts.append((chance.choice(("f", "g", "h")), row, some_when(chance, cycle)))
+        if chance.randrange(4) == 0:
+            facts.append(facts[-1][:2] + (some_when(chance, cycle),))
+    chance.shuffle(facts)
+    return facts
 
 
 class Asked:
@@ -218,9 +259,7 @@ class Asked:
     def new_horizon(self, question):
         kind = question[0]
         if kind == "fact":
-            whens = [when for name, _, when in self.facts if name == question[1]]
-            return max([when[2] if when[0] == "span" else when[1] if when[4] is None
-                        else when[1] + (when[4] - 1) * when[3] + when[2] for when in whens], default=0)
+            return max([plain_bound(when) for name, _, when in self.facts if name == question[1]], default=0)
         most = max(self.horizon(part) for part in plain_parts(question))
         if kind == "shift":
             return max(0, most - question[1])

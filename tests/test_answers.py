@@ -5,8 +5,8 @@ from random import Random
 from ateverymoment.answers import first_apart, first_row, make_answer, moments_of, row_table, rows_at
 from ateverymoment.errors import DifferentCycles, OtherColumns
 from ateverymoment.tables import always, is_shortest, is_table, never, span_table
-from tests.asking import order
-from tests.plain import displaced, from_moments, last_start, plain_holds, plain_shortest, row_of, some_table
+from tests.given import end_of_all, plain_rows_at, row_order
+from tests.plain import displaced, from_moments, plain_shortest, row_of, some_table
 
 BIG = 10 ** 30
 VALUES = (-BIG, -2, -1, 0, 3, 10, "a", "ab", "b", "z")
@@ -14,10 +14,6 @@ VALUES = (-BIG, -2, -1, 0, 3, 10, "a", "ab", "b", "z")
 EMPTY = ((7, ((0, ()),)), (7, ((0, ((3, 5),)), (3, ()))), (7, ((0, ()), (9, ()), (BIG, ()))))
 FULL = ((7, ((0, ((0, 7),)), (2, ((0, 7),)))), (7, ((0, ((0, 3),)), (3, ((0, 7),)))))
 FOUR = (4, ((0, ((0, 1),)), (16, ())))
-
-
-def row_order(row):
-    return [order(value) for value in row]
 
 
 def plain_moments(pairs, count):
@@ -34,11 +30,6 @@ def plain_answer(cycle, columns, pairs):
     moments = plain_moments(pairs, 100 + 3 * cycle)
     rows = sorted([row for row in moments if any(moments[row])], key=row_order)
     return cycle, columns, tuple((row, plain_shortest(cycle, moments[row])[1]) for row in rows)
-
-
-def plain_rows_at(answer, moment):
-    cycle, _, entries = answer
-    return tuple(row for row, lines in entries if plain_holds((cycle, lines), moment))
 
 
 def some_pairs(chance, cycle, width, most=6):
@@ -62,11 +53,6 @@ def some_answers(seed, count):
         cycle, width = chance.choice((1, 2, 3, 5)), chance.choice((0, 1, 1, 2, 3))
         pairs = some_pairs(chance, cycle, width)
         yield plain_answer(cycle, ("x", "y", "z")[:width], pairs), pairs
-
-
-def end_of_all(*answers):
-    """A moment from which on all is as it was a cycle before."""
-    return max([last_start((answer[0], lines)) for answer in answers for _, lines in answer[2]], default=0)
 
 
 def plain_first(answer, count):

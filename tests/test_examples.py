@@ -4,6 +4,7 @@ import doctest
 import unittest
 from pathlib import Path
 
+from ateverymoment.answering import answer_to
 from ateverymoment.errors import BadText
 from ateverymoment.finding import next_moment, nth_moment
 from ateverymoment.passing import once, since
@@ -13,6 +14,7 @@ from ateverymoment.simplifying import simplified
 from ateverymoment.tables import is_shortest, shortest, span_table
 from ateverymoment.times import Times
 from ateverymoment.values import compare_values
+from ateverymoment.ways import journey
 from ateverymoment.whens import when_table
 from ateverymoment.writing import write_question
 
@@ -66,6 +68,16 @@ class Examples(unittest.TestCase):
         with self.assertRaises(BadText) as caught:
             read_question("shift(07, open[])")
         self.assertEqual(caught.exception.at, 6)
+
+    def test_answering_and_ways(self):
+        buses = [("bus", ("a", "b"), ("span", 3, 4)), ("bus", ("b", "c"), ("round", 0, 1, 4, None))]
+        bus = ("fact", "bus", (("col", "x"), ("col", "y")))
+        self.assertEqual(answer_to(4, buses, ("way", "x", "y", bus)), (4, ("x", "y"), (
+            (("a", "b"), ((0, ((0, 4),)), (4, ()))), (("a", "c"), ((0, ((0, 4),)), (4, ()))),
+            (("b", "c"), ((0, ((0, 4),)),)),
+        )))
+        steps = answer_to(4, buses, bus)
+        self.assertEqual(journey(steps, "x", "y", "a", "c", 2), ((3, "a", "b"), (4, "b", "c")))
 
     def test_the_readme(self):
         text = (Path(__file__).resolve().parent.parent / "README.md").read_text().replace("```", "")

@@ -38,6 +38,13 @@ FUNCTIONS = {
         "make_answer(cycle, columns, pairs)", "rows_at(answer, moment)", "row_table(answer, row)",
         "moments_of(answer)", "first_row(answer)", "first_apart(answer, other)",
     ),
+    "relations": (
+        "joined(answer, other)", "merged(answer, other)", "excepted(answer, other)", "kept_columns(answer, columns)",
+        "chosen(answer, test, left, right)", "moved(answer, kind, number)", "followed(answer, other, kind)",
+    ),
+    "totals": ("counted(answer, new, keep)", "totaled(answer, kind, new, column, keep)"),
+    "ways": ("linked(answer)", "ways(answer, x, y)", "journey(answer, x, y, start, goal, moment)"),
+    "answering": ("answer_to(cycle, facts, question)",),
 }
 ERRORS = {
     "NoQuestion": "(path)", "BadText": "(at)", "NoFact": "(number)", "NoKept": "(number)", "NoGuard": "(number)",

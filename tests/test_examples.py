@@ -5,12 +5,14 @@ import unittest
 from pathlib import Path
 
 from ateverymoment.answering import answer_to
-from ateverymoment.errors import BadText
+from ateverymoment.errors import BadText, Forbidden
 from ateverymoment.finding import next_moment, nth_moment
 from ateverymoment.passing import once, since
 from ateverymoment.questions import columns_of
 from ateverymoment.reading import read_question
+from ateverymoment.rings import next_ring, ring_at
 from ateverymoment.simplifying import simplified
+from ateverymoment.store import Store
 from ateverymoment.tables import is_shortest, shortest, span_table
 from ateverymoment.times import Times
 from ateverymoment.values import compare_values
@@ -78,6 +80,34 @@ class Examples(unittest.TestCase):
         )))
         steps = answer_to(4, buses, bus)
         self.assertEqual(journey(steps, "x", "y", "a", "c", 2), ((3, "a", "b"), (4, "b", "c")))
+
+    def test_asking_a_store(self):
+        store = Store(7)
+        store.tell("open", ("bar",), ("round", 0, 5, 7, None))
+        answer = store.ask(("fact", "open", (("col", "x"),)))
+        self.assertEqual(answer, (7, ("x",), ((("bar",), ((0, ((0, 5),)),)),)))
+
+    def test_guards(self):
+        store = Store(7)
+        guard = store.forbid(("both", ("fact", "open", ()), ("fact", "closed", ())))
+        store.tell("open", (), ("span", 2, 9))
+        with self.assertRaises(Forbidden) as caught:
+            store.tell("closed", (), ("round", 3, 1, 7, None))
+        error = caught.exception
+        self.assertEqual((guard, error.guard, error.moment, error.row), (1, 1, 3, ()))
+
+    def test_papers(self):
+        store = Store(7)
+        store.keep(("once", 2, ("fact", "open", ())))
+        store.tell("open", (), ("span", 2, 4))
+        tables = (7, ((0, ()),)), (7, ((0, ((2, 6),)), (9, ())))
+        self.assertEqual(store.papers(), ((1, ((),), (2, 6), (((),) + tables,)),))
+
+    def test_rings(self):
+        store = Store(7)
+        store.tell("open", (), ("round", 0, 5, 7, None))
+        answer = store.ask(("fact", "open", ()))
+        self.assertEqual((next_ring(answer, 5), ring_at(answer, 10)), (7, 35))
 
     def test_the_readme(self):
         text = (Path(__file__).resolve().parent.parent / "README.md").read_text().replace("```", "")

@@ -45,6 +45,15 @@ FUNCTIONS = {
     "totals": ("counted(answer, new, keep)", "totaled(answer, kind, new, column, keep)"),
     "ways": ("linked(answer)", "ways(answer, x, y)", "journey(answer, x, y, start, goal, moment)"),
     "answering": ("answer_to(cycle, facts, question)",),
+    "plainly": ("horizon(cycle, facts, question)", "plain_rows(cycle, facts, question, moment)"),
+    "papers": (
+        "change_span(before, after)", "hull(spans)", "moved_span(question, span)", "question_span(question, changes)",
+    ),
+    "rings": (
+        "ringing(answer, *, row=None)", "next_ring(answer, after, *, row=None)", "ring_at(answer, n, *, row=None)",
+        "rings_before(answer, moment, *, row=None)", "some_rings(answer, count, *, after=-1, row=None)",
+        "turned(answer, moment)",
+    ),
 }
 ERRORS = {
     "NoQuestion": "(path)", "BadText": "(at)", "NoFact": "(number)", "NoKept": "(number)", "NoGuard": "(number)",
@@ -52,6 +61,15 @@ ERRORS = {
 }
 
 
+METHODS = {
+    ("store", "Store", "(cycle)"): (
+        "do(self, deeds)", "tell(self, name, row, when)", "withdraw(self, number)",
+        "correct(self, number, *, row, when)", "facts(self)", "ask(self, question)", "keep(self, question)",
+        "kept(self, number)", "drop(self, number)", "papers(self)", "forbid(self, question)", "allow(self, number)",
+        "guards(self)", "what_if(self, deeds, question)",
+    ),
+    ("rings", "Bell", "(store, number, *, row=None)"): ("forward(self)", "advance(self, to)"),
+}
 OPERATORS = (
     "__contains__", "__bool__", "__and__", "__or__", "__sub__", "__xor__", "__invert__", "__lshift__", "__rshift__",
 )
@@ -86,3 +104,15 @@ class Interface(unittest.TestCase):
             self.assertIsInstance(own[name], property)
         self.assertIsInstance(own["made"], staticmethod)
         self.assertEqual(str(inspect.signature(kind.made)), "(cycle, when)")
+
+    def test_store_and_bell_have_their_methods_themselves(self):
+        for (name, written, arguments), methods in METHODS.items():
+            module = importlib.import_module("ateverymoment." + name)
+            kind = getattr(module, written)
+            self.assertEqual(kind.__module__, module.__name__)
+            self.assertEqual(str(inspect.signature(kind)), arguments)
+            for text in methods:
+                method = vars(kind)[text.partition("(")[0]]
+                self.assertEqual(method.__name__ + str(inspect.signature(method)), text)
+        store = importlib.import_module("ateverymoment.store").Store
+        self.assertIsInstance(vars(store)["cycle_length"], property)

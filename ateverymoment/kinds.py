@@ -25,8 +25,10 @@ ITEMS = {
     "way": ("word", "word", "question"),
 }
 
-# Kinds that look at the moments within a bound.
+# Kinds that look at the moments within a bound: whether a row answers at some of them, or at each of them.
 LOOKING = ("once", "lately", "soon", "henceforth")
+SOME_MOMENT = ("once", "soon")
+EVERY_MOMENT = ("lately", "henceforth")
 
 # Kinds whose columns are those of Q, and in which P tells how long Q is followed.
 FOLLOWING = ("since", "sincenot", "until", "untilnot")

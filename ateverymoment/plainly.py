@@ -1,14 +1,13 @@
 """The plain meaning of questions: rows that are found moment by moment, without tables."""
 
 from ateverymoment.columns import given_row, part_of, places_of
-from ateverymoment.kinds import FOLLOWING, LOOKING
+from ateverymoment.kinds import EVERY_MOMENT, FOLLOWING, LOOKING, SOME_MOMENT
 from ateverymoment.momentary import linked_rows, momentary_rows, united
 from ateverymoment.questions import node_columns, parts_of
 from ateverymoment.values import sorted_rows
 from ateverymoment.whens import when_bound, when_holds
 
-SOME_MOMENT = ("once", "soon")
-EVERY_MOMENT = ("lately", "henceforth")
+# Kinds that look at moments that are past.
 BACK = ("once", "lately", "since", "sincenot")
 
 

@@ -1,12 +1,10 @@
 """Simpler questions with the same rows at every moment."""
 
-from ateverymoment.kinds import FOLLOWING, LOOKING
+from ateverymoment.kinds import EVERY_MOMENT, FOLLOWING, LOOKING, SOME_MOMENT
 from ateverymoment.questions import columns_of, parts_of
 
 SAME_TWICE = ("both", "either", "since", "until")
 SHIFTED_TOGETHER = ("both", "either", "unless")
-SOME_MOMENT = ("once", "soon")
-EVERY_MOMENT = ("lately", "henceforth")
 
 
 def simplified(question):

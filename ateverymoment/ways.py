@@ -52,7 +52,7 @@ def linked_cells(tables, block):
             leads.setdefault(one, {})[other] = cells
     for middle in list(leads):
         onward = list(leads[middle].items())
-        for ends in leads.values():
+        for ends in list(leads.values()):
             before = ends.get(middle, 0)
             if before != 0:
                 add_chains(ends, before, onward)

@@ -6,12 +6,13 @@ from ateverymoment.answers import rows_at
 from ateverymoment.plainly import horizon, plain_rows
 from tests.asking import (
     KINDS, NONE, X, XY, Y, Asked, fact, fits, plain_nodes, some_of_kind, some_question, some_questions, some_subset,
-    some_told,
+    some_told, some_when,
 )
 from tests.given import row_order
 
 BIG = 10 ** 30
 XYZ = ("x", "y", "z")
+EVER = ("from", 0)
 FACTS = [
     ("f", (1,), ("span", 2, 5)), ("f", (1, 2), ("from", 9)), ("g", (1,), ("round", 3, 2, 7, 2)),
     ("h", (1, 2), ("round", 4, 2, 7, None)), ("open", (), ("but", ("from", 1), ("span", 20, 23))),
@@ -95,6 +96,63 @@ class PlainRows(unittest.TestCase):
                 elif fits(kind, columns):
                     question = some_of_kind(chance, kind, columns, chance.randint(2, 3))
                     done += self.check(cycle, some_told(chance, cycle), question)
+
+    def test_chains(self):
+        chance = Random(357)
+        for _ in range(120):
+            cycle = chance.choice((1, 2, 3, 4))
+            values = (1, 2, "a", "ab", "b")[:chance.randint(2, 5)]
+            facts = [("h", (chance.choice(values), chance.choice(values)), some_when(chance, cycle, 1))
+                     for _ in range(chance.randint(3, 12))]
+            x, y = chance.sample(("x", "y"), 2)
+            for question in (("way", x, y, XY), ("linked", x, y, XY), ("way", x, y, ("shift", -2, ("way", y, x, XY)))):
+                self.assertTrue(self.check(cycle, facts, question))
+
+    def test_a_chain_of_steps_that_come_round_in_the_wrong_order(self):
+        facts = [("h", (k, k + 1), ("round", 6 - k, 1, 7, None)) for k in range(6)]
+        facts += [("h", (6, 7), ("span", 80, 81)), ("h", (7, 8), ("span", 79, 90)), ("h", (8, 9), ("from", 3))]
+        question = ("way", "x", "y", XY)
+        answer = answer_to(7, facts, question)
+        self.assertEqual(plain_rows(7, facts, question, 95), rows_at(answer, 95))
+        self.assertIn((0, 6), rows_at(answer, 95))
+        for moment in range(0, 100, 3):
+            self.assertEqual(plain_rows(7, facts, question, moment), rows_at(answer, moment))
+
+    def test_gaps_in_what_is_followed(self):
+        chance = Random(358)
+        kinds = ("since", "until", "lately", "henceforth", "sincenot", "untilnot", "once", "soon")
+        for _ in range(150):
+            facts = [(chance.choice("fg"), (chance.choice((1, 2)),), some_when(chance, 3, 2)) for _ in range(7)]
+            question = chance.choice((X, fact("g", "x")))
+            for _ in range(3):
+                kind = chance.choice(kinds)
+                other = chance.choice((X, fact("g", "x")))
+                question = (kind, None, question) if kind in kinds[2:4] + kinds[6:] else (kind, other, question)
+            self.check(3, facts, question)
+
+    def test_far_phases(self):
+        for phase in range(7):
+            facts = [("f", (1,), EVER), ("g", (1,), ("round", phase, 1, 7, None)), ("f", (2,), ("from", 5)),
+                     ("g", (2,), ("round", phase, 6, 7, None))]
+            there = fact("g", "x")
+            for question in (("until", X, there), ("untilnot", fact("k", "x"), there), ("soon", None, there),
+                             ("henceforth", None, there), ("henceforth", 5, there), ("since", X, there),
+                             ("sincenot", fact("k", "x"), there), ("once", None, there), ("lately", None, there)):
+                self.assertTrue(self.check(7, facts, question))
+
+    def test_no_rows_before_the_first_moment(self):
+        facts = [("f", (1,), EVER), ("g", (1,), EVER), ("h", (1, 1), EVER)]
+        there = fact("g", "x")
+        for part in (
+            X, ("both", X, there), ("soon", 3, X), ("soon", None, X), ("once", 2, X), ("once", None, X), ("lately", 2, X),
+            ("lately", None, X), ("henceforth", 2, X), ("henceforth", None, X), ("until", X, there), ("since", X, there),
+            ("count", "n", (), X), ("way", "x", "y", XY), ("linked", "x", "y", XY), ("shift", 3, X),
+        ):
+            for n in (1, 2, 5):
+                found = [plain_rows(7, facts, ("shift", -n, part), moment) for moment in range(n + 3)]
+                self.assertEqual([rows != () for rows in found], [False] * n + [True] * 3)
+                answer = answer_to(7, facts, ("shift", -n, part))
+                self.assertEqual(found, [rows_at(answer, moment) for moment in range(n + 3)])
 
     def test_deep_questions(self):
         chance = Random(353)

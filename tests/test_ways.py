@@ -87,6 +87,13 @@ class Linked(Ways):
         for moment in range(402):
             self.assertEqual(set(rows_at(found, moment)), linked_rows(set(rows_at(answer, moment))))
 
+    def test_many_starts_and_an_end_at_any_of_them(self):
+        many = from_moments(1, set(range(0, 300, 2)), 300)
+        for end in list(range(1, 5)) + list(range(60, 70)) + list(range(126, 131)) + [200]:
+            answer = steps(1, ("pq", many), ("ab", span_table(1, 0, end)), ("bc", always(1)))
+            self.assertEqual(linked(answer), steps(1, ("pq", many), ("ab", span_table(1, 0, end)), ("bc", always(1)),
+                                                   ("ac", span_table(1, 0, end))))
+
     def test_starts_of_any_size(self):
         answer = steps(7, ("ab", span_table(7, BIG, None)), ("bc", span_table(7, 0, BIG + 2)))
         self.check(linked(answer), steps(7, ("ab", span_table(7, BIG, None)), ("bc", span_table(7, 0, BIG + 2)),
